@@ -1,0 +1,1 @@
+"""When greedy batches never leave anything behind."""

@@ -1,0 +1,104 @@
+"""[1], [2], [3] and the interface: names, arguments, the files of definition, and what all functions have in common."""
+
+import ast
+import importlib
+import inspect
+import pathlib
+import unittest
+
+from noneleft.books import Book
+from refusals import Refusals
+from samples import PAIRS, UNSAFE
+from trial import is_plain
+
+PACKAGE = pathlib.Path(__file__).resolve().parent.parent / "noneleft"
+
+INTERFACE = {
+    "errors": {"LeftError": None, "InvalidBook": "at", "InvalidCrowd": "at", "InvalidRun": "at", "InvalidGroup": "at",
+               "InvalidQuestion": "at", "InvalidText": "at", "NotSafe": "at", "Refused": "at", "InvalidCommand": None},
+    "books": {"Book": "kinds batches", "checked_crowd": "book value", "fits": "book batch crowd",
+              "fitting": "book crowd", "least_batches": "book"},
+    "runs": {"left_by": "book crowd run", "all_ends": "book crowd", "first_run": "book crowd",
+             "is_clearable": "book crowd", "clearing_run": "book crowd", "run_between": "book crowd remnant",
+             "crowd_of": "book run"},
+    "booktexts": {"book_text": "book", "read_book": "text"},
+    "tables": {"signed_table": "book", "signed_numbers": "book row", "name_of": "book row", "is_nought": "book row",
+               "same_names": "one other", "with_batch": "book batch", "without_batch": "book batch", "needed": "book",
+               "generating": "book"},
+    "naming": {"hours_of": "kinds value row", "moduli": "book", "naming": "book", "is_naming": "book value",
+               "name_count": "book", "all_names": "book", "order_of": "book row", "like_kinds": "book",
+               "table_of": "kinds value", "translation": "book one other"},
+    "covers": {"least_covers": "book batch", "is_least_cover": "book batch value"},
+    "court": {"is_safe": "book", "require_safe": "book", "safe_paper": "book", "least_wrong": "book",
+              "unsafe_paper": "book", "strange_crowd": "book", "summed_batches": "book", "is_safe_paper": "book value",
+              "is_unsafe_paper": "book value", "is_strange": "book value", "goes_wrong": "book crowd"},
+    "stuck": {"stuck_crowds": "book size", "stuck_counts": "book most", "alone": "book", "most_left": "book",
+              "largest_stuck": "book", "stuck_by_name": "book"},
+}
+
+
+class Interface(unittest.TestCase):
+
+    def test_each_name_is_defined_in_its_file(self):
+        for module, names in INTERFACE.items():
+            tree = ast.parse((PACKAGE / f"{module}.py").read_text())
+            found = {node.name for node in tree.body if isinstance(node, (ast.FunctionDef, ast.ClassDef))}
+            for name in names:
+                self.assertIn(name, found, module)
+
+    def test_arguments(self):
+        for module, names in INTERFACE.items():
+            loaded = importlib.import_module(f"noneleft.{module}")
+            for name, wanted in names.items():
+                if wanted is not None:
+                    parameters = inspect.signature(getattr(loaded, name)).parameters.values()
+                    self.assertEqual(" ".join(one.name for one in parameters), wanted, name)
+                    for one in parameters:
+                        self.assertEqual((one.kind, one.default), (one.POSITIONAL_OR_KEYWORD, one.empty), name)
+
+
+class InCommon(Refusals):
+
+    # Arguments that are right for the names above, with which each function tells something.
+    ARGUMENTS = {"book": PAIRS, "value": ((3, (1, 2)),), "batch": 1, "crowd": [3, 3], "run": [0, 2], "remnant": [0, 0],
+                 "text": "kinds 1\n2", "row": [-3, 4], "one": ((3, (1, 2)),), "other": ((3, (2, 1)),), "kinds": 2,
+                 "size": 2, "most": 3}
+    OTHERS = {"checked_crowd": {"value": [4, 4]}, "least_wrong": {"book": UNSAFE}, "unsafe_paper": {"book": UNSAFE},
+              "strange_crowd": {"book": UNSAFE}, "goes_wrong": {"book": UNSAFE, "crowd": [2, 2]},
+              "same_names": {"one": PAIRS, "other": UNSAFE}, "with_batch": {"batch": (1, 2)}}
+
+    def test_what_is_told_is_in_tuples_and_no_bool(self):
+        for name, function, arguments in self.calls():
+            found = function(**arguments)
+            if isinstance(found, Book):
+                self.assertTrue(is_plain((found.kinds, found.batches)))
+            elif not isinstance(found, (str, bool)) and found is not None:
+                self.assertTrue(is_plain(found), (name, found))
+            self.assertEqual(isinstance(found, bool), name.startswith("is_") or name in ("fits", "same_names"), name)
+
+    def test_by_names_and_by_places_alike_and_each_time(self):
+        for name, function, arguments in self.calls():
+            self.assertEqual(function(**arguments), function(*arguments.values()), name)
+            self.assertEqual(function(**arguments), function(**dict(reversed(arguments.items()))), name)
+
+    def test_arguments_stay(self):
+        for name, function, arguments in self.calls():
+            before = repr([value for value in arguments.values() if type(value) is list])
+            function(**arguments)
+            self.assertEqual(repr([value for value in arguments.values() if type(value) is list]), before, name)
+        self.assertEqual(PAIRS, Book(2, [(0, 3), (1, 1), (3, 0)]))
+        self.assertEqual(UNSAFE, Book(2, [(1, 1), (2, 0)]))
+
+    def calls(self):
+        found = []
+        for module, names in INTERFACE.items():
+            if module != "errors":
+                for name, wanted in names.items():
+                    if name != "Book":
+                        arguments = {one: self.OTHERS.get(name, {}).get(one, self.ARGUMENTS[one]) for one in wanted.split()}
+                        found.append((name, getattr(importlib.import_module(f"noneleft.{module}"), name), arguments))
+        return found
+
+
+if __name__ == "__main__":
+    unittest.main()
