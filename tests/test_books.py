@@ -1,5 +1,6 @@
 """[1], [2], [5], [6]: books and crowds."""
 
+from collections import namedtuple
 from itertools import permutations, product
 from types import SimpleNamespace
 
@@ -58,6 +59,12 @@ class Books(Refusals):
         batches.append((1, 1))
         batches[0] = (5, 5)
         self.same(book.batches, ((0, 3), (3, 0)))
+
+    def test_whatever_is_a_tuple(self):
+        named = namedtuple("Named", "one other")
+        self.same(Book(2, [(2, 2), named(0, 3)]).batches, ((0, 3), (2, 2)))
+        self.same(checked_crowd(PAIRS, named(5, 6)), (5, 6))
+        self.refused(InvalidBook, 2, Book, 2, [(2, 2), named(2, 2)])
 
     def test_equal(self):
         self.assertTrue(Book(2, [(1, 1)]) == Book(2, ((1, 1),)))

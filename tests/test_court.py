@@ -68,16 +68,21 @@ class Safe(Refusals):
     def test_each_small_book(self):
         for book in SMALL:
             trial = Trial(book)
-            wrong = [crowd for crowd in crowds_up_to(book.kinds, 14 if book.kinds < 3 else 12) if trial.goes_wrong(crowd)]
-            self.assertEqual(is_safe(book), not wrong, book.batches)
+            most = 14 if book.kinds < 3 else 12
+            if any(trial.goes_wrong(crowd) for crowd in crowds_up_to(book.kinds, most)):
+                self.assertIs(is_safe(book), False, book.batches)
+            else:
+                self.assertTrue(is_safe(book) or sum(least_wrong(book)) > most, book.batches)
 
     def test_signed_sums_of_safe_books_are_clearable(self):
         for book in SMALL:
             trial = Trial(book)
             table = signed_table(book)
-            crowds = crowds_up_to(book.kinds, size_for(book) + 3)
-            fits_all = all(trial.clears(crowd) for crowd in crowds if is_signed_sum(table, crowd))
-            self.assertEqual(is_safe(book), fits_all, book.batches)
+            most = size_for(book) + 3
+            if all(trial.clears(crowd) for crowd in crowds_up_to(book.kinds, most) if is_signed_sum(table, crowd)):
+                self.assertTrue(is_safe(book) or sum(strange_crowd(book)) > most, book.batches)
+            else:
+                self.assertIs(is_safe(book), False, book.batches)
 
     def test_least_covers_of_safe_books(self):
         for book in SMALL:
@@ -141,6 +146,16 @@ class SafePapers(Refusals):
                 for wrong in ((batch + 1, cover, run), (batch, cover[::-1] + cover, run), (batch, cover, run + (0,)),
                               (batch, cover, (len(book.batches),)), (batch, cover, (-1,)), (cover, batch, run)):
                     self.assertIs(is_safe_paper(book, paper[:at] + (wrong,) + paper[at + 1:]), False)
+
+    def test_other_covers_of_the_same_length(self):
+        paper = safe_paper(PAIRS)
+        for at, (batch, cover, run) in enumerate(paper):
+            for other in range(3):
+                for place in range(len(cover)):
+                    wrong = cover[:place] + (other,) + cover[place + 1:]
+                    if wrong != cover:
+                        value = paper[:at] + ((batch, wrong, run),) + paper[at + 1:]
+                        self.assertIs(is_safe_paper(PAIRS, value), False)
 
     def test_covers_that_are_not_least(self):
         paper = safe_paper(PAIRS)
@@ -359,6 +374,15 @@ class Strange(Refusals):
             self.assertIs(is_strange(chain, crowd), wanted, crowd)
         for crowd in ((0, 30, 0), (50, 0, 4), (25, 0, 5)):
             self.assertIs(is_strange(chain, crowd), True)
+        # Six kinds: each one's hour is that of the one before, taken -2 times.
+        doubled = Book(6, [(2, 1, 0, 0, 0, 0), (0, 2, 1, 0, 0, 0), (0, 0, 2, 1, 0, 0), (0, 0, 0, 2, 1, 0),
+                           (0, 0, 0, 0, 2, 1), (0, 0, 0, 0, 0, 2)])
+        for crowd in ((64, 0, 0, 0, 0, 0), (0, 32, 0, 0, 0, 0), (60, 0, 1, 0, 0, 0), (1, 0, 1, 1, 0, 1), (44, 0, 1, 0, 1, 0)):
+            self.assertIs(is_strange(doubled, crowd), self.is_strange_plainly(doubled, crowd), crowd)
+        for crowd in ((64, 0, 0, 0, 0, 0), (0, 32, 0, 0, 0, 0), (60, 0, 1, 0, 0, 0), (44, 0, 1, 0, 1, 0)):
+            self.assertIs(is_strange(doubled, crowd), True)
+        for crowd in ((63, 0, 0, 0, 0, 0), (0, 64, 0, 0, 0, 0), (32, 16, 0, 0, 0, 0), (11, 11, 11, 11, 10, 10), (2, 1, 0, 0, 0, 0)):
+            self.assertIs(is_strange(doubled, crowd), False)
         self.assertIs(is_strange(Book(2, [(6, 0)]), (32, 32)), False)
         self.assertIs(is_strange(Book(6, [(1, 1, 1, 1, 1, 1)]), (11, 11, 11, 11, 10, 10)), False)
         self.assertIs(is_strange(Book(6, [(2, 2, 0, 0, 0, 0), (3, 3, 0, 0, 0, 0)]), (10, 10, 11, 11, 11, 11)), False)
