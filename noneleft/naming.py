@@ -70,7 +70,7 @@ def naming(book):
 
 def _straightened(steps, width):
     """The steps after sums of columns and of rows by which each one has only its own column."""
-    # Each pass leaves a divisor in the first place that is not yet straight, so this ends.
+    # Each pass either makes one more place straight or leaves a lesser divisor in it, so this ends.
     while not _is_straight(steps, width):
         columns = [tuple([step[at] for step in steps]) for at in range(width)]
         columns = stairs(columns, width)[0]
@@ -80,9 +80,9 @@ def _straightened(steps, width):
 
 
 def _is_straight(steps, width):
-    """Tell whether each step has only the column of its own place."""
+    """Tell whether each step has only the column of its own place, there being one for each column."""
     for at, step in enumerate(steps):
-        if any(step[:at]) or any(step[at + 1:width]):
+        if any(step[at + 1:width]):
             return False
     return True
 

@@ -78,6 +78,7 @@ def generating(book):
     table = signed_table(book)
     wanted = needed(book)
     many = len(book.batches)
+    # What is needed is in each such tuple, which spares most of the tables.
     for size in range(max(len(table), len(wanted)), many):
         for chosen in combinations(range(many), size):
             if _has_all(chosen, wanted) and _table_of_some(book, chosen) == table:
