@@ -1,7 +1,7 @@
 """Books of batches, and crowds of their kinds."""
 
 from noneleft.errors import InvalidBook, InvalidCrowd, InvalidRun
-from noneleft.rows import are_numbers, is_integer, is_number, is_sequence, is_within
+from noneleft.rows import are_numbers, is_integer, is_number, is_sequence, is_within, misfit
 
 
 class Book:
@@ -43,13 +43,9 @@ def checked_index(book, value):
 
 def checked_entries(kinds, value, is_right):
     """Any value, a sequence of a right entry for each kind, as a tuple."""
-    if not is_sequence(value):
-        raise InvalidCrowd(kinds)
-    for at, entry in enumerate(value):
-        if not is_right(entry):
-            raise InvalidCrowd(at)
-    if len(value) != kinds:
-        raise InvalidCrowd(kinds)
+    at = misfit(value, kinds, is_right)
+    if at is not None:
+        raise InvalidCrowd(at)
     return tuple(value)
 
 

@@ -3,7 +3,7 @@
 from math import gcd, lcm
 
 from noneleft.errors import InvalidGroup, Refused
-from noneleft.rows import are_integers, is_integer, lowered, nought, plus, stairs, unit
+from noneleft.rows import are_integers, is_integer, lowered, nought, plus, stairs, unit, weighed
 from noneleft.tables import checked_row, name_of, signed_table, table_of_rows
 
 
@@ -20,7 +20,7 @@ def told(pairs, row):
 
 def _hour(modulus, hours, row):
     """What one clock or balance tells of the row."""
-    total = sum([hour * number for hour, number in zip(hours, row)])
+    total = weighed(row, hours)
     return total % modulus if modulus else total
 
 

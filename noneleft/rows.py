@@ -26,6 +26,20 @@ def are_numbers(value, many):
     return isinstance(value, tuple) and len(value) == many and all([is_number(entry) for entry in value])
 
 
+def misfit(value, many, is_right):
+    """What keeps any value from being a sequence of so many right entries; None if it is one.
+
+    The index of the first entry that is not right; how many there should be if it is no sequence, or
+    only its length is wrong.
+    """
+    if not is_sequence(value):
+        return many
+    for at, entry in enumerate(value):
+        if not is_right(entry):
+            return at
+    return None if len(value) == many else many
+
+
 def nought(many):
     """The row of so many noughts."""
     return (0,) * many
@@ -44,6 +58,11 @@ def plus(one, other):
 def less(row, other, number=1):
     """The row less the other one taken so many times."""
     return tuple([mine - number * theirs for mine, theirs in zip(row, other)])
+
+
+def weighed(row, weights):
+    """The sum of the numbers of the row, each times that in its place in the other one."""
+    return sum([number * weight for number, weight in zip(row, weights)])
 
 
 def is_within(inner, outer):

@@ -66,11 +66,17 @@ def largest_stuck(book):
     return [crowd for crowd in crowds if sum(crowd) == most][0]
 
 
-def stuck_by_name(book):
-    """Each name of a stuck crowd, ascending, with all stuck crowds that have it."""
+def bounded_stuck(book):
+    """All stuck crowds, ascending; refused if there is no greatest number of members."""
     crowds = _all_stuck(book)
     if crowds is None:
         raise Refused(0)
+    return crowds
+
+
+def stuck_by_name(book):
+    """Each name of a stuck crowd, ascending, with all stuck crowds that have it."""
+    crowds = bounded_stuck(book)
     table = signed_table(book)
     named = {}
     for crowd in crowds:

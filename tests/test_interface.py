@@ -34,6 +34,15 @@ INTERFACE = {
               "is_unsafe_paper": "book value", "is_strange": "book value", "goes_wrong": "book crowd"},
     "stuck": {"stuck_crowds": "book size", "stuck_counts": "book most", "alone": "book", "most_left": "book",
               "largest_stuck": "book", "stuck_by_name": "book"},
+    "remnants": {"told_remnants": "book crowd", "tells_ends": "book crowd", "greedy_counts": "book crowd",
+                 "counts_between": "book crowd remnant"},
+    "least": {"least_left": "book crowd costs", "least_remnants": "book crowd costs", "least_run": "book crowd costs",
+              "coming_cost": "book crowd costs", "least_coming": "book crowd costs",
+              "added_cost": "book crowd batch costs"},
+    "prices": {"cheapest_crowds": "book costs", "highest_prices": "book costs", "unlike_ends": "book costs",
+               "is_price_list": "book costs value", "is_unlike": "book costs value"},
+    "lengths": {"clearing_lengths": "book crowd", "ending_lengths": "book crowd",
+                "clearing_of_length": "book crowd length", "ending_of_length": "book crowd length"},
 }
 
 
@@ -62,7 +71,7 @@ class InCommon(Refusals):
     # Arguments that are right for the names above, with which each function tells something.
     ARGUMENTS = {"book": PAIRS, "value": ((3, (1, 2)),), "batch": 1, "crowd": [3, 3], "run": [0, 2], "remnant": [0, 0],
                  "text": "kinds 1\n2", "row": [-3, 4], "one": ((3, (1, 2)),), "other": ((3, (2, 1)),), "kinds": 2,
-                 "size": 2, "most": 3}
+                 "size": 2, "most": 3, "costs": [1, 2], "length": 3}
     OTHERS = {"checked_crowd": {"value": [4, 4]}, "least_wrong": {"book": UNSAFE}, "unsafe_paper": {"book": UNSAFE},
               "strange_crowd": {"book": UNSAFE}, "goes_wrong": {"book": UNSAFE, "crowd": [2, 2]},
               "same_names": {"one": PAIRS, "other": UNSAFE}, "with_batch": {"batch": (1, 2)}}
@@ -74,7 +83,8 @@ class InCommon(Refusals):
                 self.assertTrue(is_plain((found.kinds, found.batches)))
             elif not isinstance(found, (str, bool)) and found is not None:
                 self.assertTrue(is_plain(found), (name, found))
-            self.assertEqual(isinstance(found, bool), name.startswith("is_") or name in ("fits", "same_names"), name)
+            wanted = name.startswith(("is_", "are_")) or name in ("fits", "same_names", "tells_ends")
+            self.assertEqual(isinstance(found, bool), wanted, name)
 
     def test_by_names_and_by_places_alike_and_each_time(self):
         for name, function, arguments in self.calls():

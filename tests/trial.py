@@ -66,6 +66,26 @@ def total(kinds, batches, run):
     return crowd
 
 
+def cost_of(crowd, costs):
+    return sum(number * cost for number, cost in zip(crowd, costs))
+
+
+def cleared(book, counts):
+    """What the batches clear together if each goes off so often."""
+    return added((0,) * book.kinds, *[taken(number, batch) for number, batch in zip(counts, book.batches)])
+
+
+def is_ending_run(book, crowd, run):
+    """Whether this is a run, a tuple, that goes off batch by batch and leaves a stuck crowd."""
+    if type(run) is not tuple or not is_plain(run):
+        return False
+    for at in run:
+        if type(at) is not int or not 0 <= at < len(book.batches) or not within(book.batches[at], crowd):
+            return False
+        crowd = without(crowd, book.batches[at])
+    return not any(within(batch, crowd) for batch in book.batches)
+
+
 class Trial:
     """Tries out all runs of a book."""
 
@@ -74,6 +94,7 @@ class Trial:
         self.batches = book.batches
         self.ends = lru_cache(None)(self.ends)
         self.clears = lru_cache(None)(self.clears)
+        self.outcomes = lru_cache(None)(self.outcomes)
 
     def is_stuck(self, crowd):
         return not any(within(batch, crowd) for batch in self.batches)
@@ -92,6 +113,13 @@ class Trial:
         if not any(crowd):
             return True
         return any(within(batch, crowd) and self.clears(without(crowd, batch)) for batch in self.batches)
+
+    def outcomes(self, crowd):
+        """Of all runs from the crowd that end the lengths, each with what is left."""
+        if self.is_stuck(crowd):
+            return frozenset([(0, crowd)])
+        return frozenset((1 + length, left) for batch in self.batches if within(batch, crowd)
+                         for length, left in self.outcomes(without(crowd, batch)))
 
     def goes_wrong(self, crowd):
         return self.clears(crowd) and any(any(left) for left in self.ends(crowd))
