@@ -8,7 +8,7 @@ import unittest
 
 from noneleft.books import Book
 from refusals import Refusals
-from samples import PAIRS, UNSAFE
+from samples import CLOCKS, PAIRS, UNSAFE
 from trial import is_plain
 
 PACKAGE = pathlib.Path(__file__).resolve().parent.parent / "noneleft"
@@ -43,6 +43,16 @@ INTERFACE = {
                "is_price_list": "book costs value", "is_unlike": "book costs value"},
     "lengths": {"clearing_lengths": "book crowd", "ending_lengths": "book crowd",
                 "clearing_of_length": "book crowd length", "ending_of_length": "book crowd length"},
+    "weights": {"weight_of": "book weights row", "is_steady": "book", "steady_weights": "book", "unlike_counts": "book",
+                "length_step": "book", "step_counts": "book", "step_hours": "book", "are_steady_weights": "book value",
+                "are_unlike_counts": "book value", "are_step_hours": "book step value"},
+    "spreads": {"spread": "book", "spread_paper": "book", "unlike_lengths": "book", "is_spread_paper": "book value",
+                "is_unlike_lengths": "book value", "told_length": "book crowd"},
+    "completion": {"completion": "book", "missing": "book", "grown": "book"},
+    "parts": {"without_kinds": "book kinds", "made_one": "book one other", "is_alike": "book one other",
+              "beside": "one other", "parts": "book", "part": "book kinds"},
+    "counting": {"period": "book", "count_named": "book size row", "count_noughts": "book size", "starts": "book row",
+                 "count_up_to": "book size row", "sizes": "book", "missing_sizes": "book"},
 }
 
 
@@ -71,15 +81,22 @@ class InCommon(Refusals):
     # Arguments that are right for the names above, with which each function tells something.
     ARGUMENTS = {"book": PAIRS, "value": ((3, (1, 2)),), "batch": 1, "crowd": [3, 3], "run": [0, 2], "remnant": [0, 0],
                  "text": "kinds 1\n2", "row": [-3, 4], "one": ((3, (1, 2)),), "other": ((3, (2, 1)),), "kinds": 2,
-                 "size": 2, "most": 3, "costs": [1, 2], "length": 3}
+                 "size": 2, "most": 3, "costs": [1, 2], "length": 3, "weights": (2, (1, 1)),
+                 "step": 1}
     OTHERS = {"checked_crowd": {"value": [4, 4]}, "least_wrong": {"book": UNSAFE}, "unsafe_paper": {"book": UNSAFE},
               "strange_crowd": {"book": UNSAFE}, "goes_wrong": {"book": UNSAFE, "crowd": [2, 2]},
-              "same_names": {"one": PAIRS, "other": UNSAFE}, "with_batch": {"batch": (1, 2)}}
+              "same_names": {"one": PAIRS, "other": UNSAFE}, "with_batch": {"batch": (1, 2)},
+              "steady_weights": {"book": UNSAFE}, "told_length": {"book": CLOCKS}, "completion": {"book": UNSAFE},
+              "missing": {"book": UNSAFE}, "grown": {"book": UNSAFE}, "without_kinds": {"kinds": (1,)},
+              "made_one": {"one": 1, "other": 0}, "is_alike": {"one": 1, "other": 0},
+              "beside": {"one": PAIRS, "other": UNSAFE}, "part": {"kinds": (0, 1)}}
 
     def test_what_is_told_is_in_tuples_and_no_bool(self):
         for name, function, arguments in self.calls():
             found = function(**arguments)
-            if isinstance(found, Book):
+            if name == "grown":
+                self.assertIs(type(found), tuple)
+            elif isinstance(found, Book):
                 self.assertTrue(is_plain((found.kinds, found.batches)))
             elif not isinstance(found, (str, bool)) and found is not None:
                 self.assertTrue(is_plain(found), (name, found))
