@@ -107,7 +107,8 @@ def _with_kind(counts, table, one, turn):
 def sizes(book):
     """The step of the sizes of crowds that come to nought, and from which multiple on all multiples are such sizes."""
     step, turn, first = _first_sizes(book)
-    return step, max([0] + [size - turn + step for size in first])
+    # A period ahead of the greatest of the first sizes stands the last multiple that is no size.
+    return step, max(first) - turn + step
 
 
 def missing_sizes(book):

@@ -115,7 +115,9 @@ class Spread(Refusals):
                                 ((2, (1, 1)), (0, 1, 0), (0, 1, 0)), ((2, (1, 1)), (0, 3, 0), (1, 1, 1)),
                                 ((3, (1, 1)), (0, 3, 0), (1, 0, 1)), ((1, (1, 1)), (0, 3, 0), (1, 0, 1)),
                                 ((2, (2, 0)), (0, 3, 0), (1, 0, 1)), ((-2, (-1, -1)), (0, 3, 0), (1, 0, 1)),
-                                ((2, (1, 1)), (0, 3, 0)), ((2, (1, 1)), (-1, 3, -1), (0, 0, 0)), ((0, (0, 0)), (0, 3, 0), (1, 0, 1))):
+                                ((2, (1, 1)), (0, 3, 0), (0, 1, 0)), ((2, (1, 1)), (0, 3, 0), (1, 0, 0)),
+                                ((2, (1, 1)), (0, 3, 0)), ((2, (1, 1)), (-1, 3, -1), (0, 0, 0)),
+                                ((0, (0, 0)), (0, 3, 0), (1, 0, 1))):
             self.assertIs(is_spread_paper(PAIRS, value), False, value)
 
     def test_no_batches(self):
@@ -192,7 +194,8 @@ class EndsAlike(Refusals):
         self.assertIs(is_unlike_lengths(PAIRS, ((HUGE, HUGE), (HUGE // 3, 1, HUGE // 3), (0, HUGE, 0))), True)
 
     def test_refusals(self):
-        for book in UNBOUNDED:
+        for book in UNBOUNDED + (Book(2, [(1, 0), (2, 0)]), Book(2, [(1, 1), (3, 0), (2, 2)]),
+                                 Book(3, [(1, 0, 0), (0, 1, 0), (1, 1, 0)])):
             self.refused(Refused, 0, unlike_lengths, book)
             for crowd in ((1,) * book.kinds, None, (-1,)):
                 self.refused(Refused, 0, told_length, book, crowd)

@@ -182,7 +182,9 @@ class Steady(Refusals):
                                 ((-1, 3, -1), (0, 0, 0)), ((1, 0, 1), (0, 3, 0), ()), ([1, 0, 1], [0, 3, 0]),
                                 [(1, 0, 1), (0, 3, 0)], ((True, 0, 1), (0, 3, 0)), ((1, False, 1), (0, 3, 0))):
             self.assertIs(are_unlike_counts(PAIRS, value), False, value)
-        # The same crowd and the same length.
+        # Unlike lengths, but also unlike crowds; and the same crowd, but the same length.
+        for value in (((1, 0, 1), (0, 4, 0)), ((0, 0, 0), (0, 3, 0)), ((1, 0, 1), (0, 3, 1)), ((1, 0, 0), (0, 3, 0))):
+            self.assertIs(are_unlike_counts(PAIRS, value), False, value)
         self.assertIs(are_unlike_counts(Book(2, [(0, 2), (1, 1), (2, 0)]), ((1, 0, 1), (0, 2, 0))), False)
 
 
@@ -266,8 +268,9 @@ class Steps(Refusals):
 
     def test_several_books(self):
         books = (PAIRS, FOURS, EVEN, FIVES, NONE, THREES)
-        once = [(length_step(book), steady_weights(book), step_counts(book), step_hours(book)) for book in books]
-        again = [(length_step(book), steady_weights(book), step_counts(book), step_hours(book)) for book in reversed(books)]
+        functions = (length_step, steady_weights, step_counts, step_hours)
+        once = [[function(book) for function in functions] for book in books]
+        again = [[function(book) for function in functions] for book in reversed(books)]
         self.assertEqual(once, again[::-1])
 
 
