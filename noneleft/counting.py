@@ -81,11 +81,11 @@ def _counts_by_name(book, most, turn):
     table = signed_table(book)
     counts = [{nought(book.kinds): 1}] + [{} for _ in range(most)]
     for kind in range(book.kinds):
-        counts = _with_kind(counts, table, unit(book.kinds, kind), turn)
+        counts = with_kind(counts, table, unit(book.kinds, kind), turn)
     return counts
 
 
-def _with_kind(counts, table, one, turn):
+def with_kind(counts, table, one, turn):
     """The counts by name if things of one more kind may be put to the crowds."""
     after = {}
     found = []

@@ -4,7 +4,7 @@ from noneleft.books import checked_crowd, is_stuck
 from noneleft.covers import covers_within, is_tuple_run, least_covers
 from noneleft.errors import NotSafe
 from noneleft.naming import naming, told
-from noneleft.rows import are_integers, are_numbers, is_integer, is_within, less, nought
+from noneleft.rows import all_within, are_integers, are_numbers, is_integer, is_within, less, nought
 from noneleft.runs import Clearing, crowd_of, first_run, is_clearable
 from noneleft.tables import is_nought, without_batch
 
@@ -142,7 +142,7 @@ def _nought_within(book, crowd):
     # Parts of both halves of the kinds are met by what is told of them: far fewer than all crowds within.
     pairs = naming(book)
     half = book.kinds // 2
-    first, second = _parts_within(crowd[:half]), _parts_within(crowd[half:])
+    first, second = all_within(crowd[:half]), all_within(crowd[half:])
     behind, ahead = nought(book.kinds - half), nought(half)
     told_of = {}
     for part in first:
@@ -154,14 +154,6 @@ def _nought_within(book, crowd):
             if any(part + rest) and part + rest != crowd:
                 return part + rest
     return None
-
-
-def _parts_within(numbers):
-    """All tuples of as many numbers, none greater than the one in its place."""
-    parts = [()]
-    for number in numbers:
-        parts = [part + (own,) for part in parts for own in range(number + 1)]
-    return parts
 
 
 def summed_batches(book):

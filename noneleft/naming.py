@@ -32,6 +32,11 @@ def checked_naming(kinds, value):
     return value
 
 
+def is_some_naming(kinds, value):
+    """Tell whether any value is a naming for so many kinds."""
+    return _misfit(kinds, value) is None
+
+
 def _misfit(kinds, value):
     """The index of the first entry that is no clock and no balance; 0 for no tuple; None if all are."""
     if not isinstance(value, tuple):
@@ -108,7 +113,7 @@ def _divided(one, other):
 
 def is_naming(book, value):
     """Tell whether any value is a naming with the moduli of the book for its names."""
-    if _misfit(book.kinds, value) is not None:
+    if not is_some_naming(book.kinds, value):
         return False
     if tuple([modulus for modulus, _ in value]) != moduli(book):
         return False

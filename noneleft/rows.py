@@ -78,6 +78,22 @@ def times_within(batch, crowd):
     return min([theirs // mine for mine, theirs in zip(batch, crowd) if mine > 0])
 
 
+def all_within(crowd):
+    """All crowds within the crowd, ascending: the first one is that of nobody, the last one the crowd itself."""
+    crowds = [()]
+    for number in crowd:
+        crowds = [start + (own,) for start in crowds for own in range(number + 1)]
+    return crowds
+
+
+def crowds_of(kinds, size):
+    """All crowds of so many kinds and just so many members, ascending."""
+    starts = [()]
+    for _ in range(kinds - 1):
+        starts = [start + (own,) for start in starts for own in range(size - sum(start) + 1)]
+    return [start + (size - sum(start),) for start in starts]
+
+
 def step_at(row):
     """The place of the first integer that is not 0."""
     at = 0
