@@ -4,6 +4,7 @@ from noneleft.books import Book
 from noneleft.errors import InvalidText
 
 FIGURES = "0123456789"
+MOST_FIGURES = 2
 
 
 def book_text(book):
@@ -31,9 +32,9 @@ def read_book(text):
     return Book(kinds, batches)
 
 
-def _number_told(word):
-    """The number that the word tells in one or two figures, or None."""
-    if len(word) not in (1, 2) or not all([sign in FIGURES for sign in word]):
+def number_told(word, most):
+    """The number that the word tells in one figure or more, up to so many, or None."""
+    if not 1 <= len(word) <= most or not all([sign in FIGURES for sign in word]):
         return None
     if str(int(word)) != word:
         return None
@@ -45,7 +46,7 @@ def _kinds_told(line):
     words = line.split(" ")
     if len(words) != 2 or words[0] != "kinds":
         return None
-    kinds = _number_told(words[1])
+    kinds = number_told(words[1], MOST_FIGURES)
     if kinds == 0:
         return None
     return kinds
@@ -53,7 +54,7 @@ def _kinds_told(line):
 
 def _batch_told(kinds, line):
     """The batch that a line tells, or None."""
-    numbers = [_number_told(word) for word in line.split(" ")]
+    numbers = [number_told(word, MOST_FIGURES) for word in line.split(" ")]
     if len(numbers) != kinds or None in numbers or not any(numbers):
         return None
     return tuple(numbers)
